@@ -10,8 +10,8 @@ def way(text):
 
 
 def with_count(text):
-    steps = way(text)
-    return [len(steps)] + steps
+    numbers = way(text)
+    return [len(numbers)] + numbers
 
 
 def begin(right, up):
@@ -38,9 +38,38 @@ def squares(text):
     return [5] + with_count(text)
 
 
+def corners(text):
+    return [6] + with_count(text)
+
+
+def between(first, second):
+    return [7] + with_count(first) + with_count(second)
+
+
+def straight(text):
+    return [8] + with_count(text)
+
+
+def shortest(many):
+    return [9, many]
+
+
+def home():
+    return [10]
+
+
+def look():
+    return [11]
+
+
 def where():
     """Going nowhere tells where the pointer is and what the wheel says."""
     return go("")
+
+
+def steps(text):
+    """An answer of so many steps, ahead of them how many they are."""
+    return with_count(text)
 
 
 def joined(calls):

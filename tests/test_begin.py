@@ -1,8 +1,7 @@
 """Point 1."""
 import unittest
 
-from line import ask, begin, go, last, where, zero
-from wheelarea.pointer import Pointer
+from line import ask, begin, go, home, last, look, where, zero
 
 
 class Begin(unittest.TestCase):
@@ -19,13 +18,10 @@ class Begin(unittest.TestCase):
         self.assertEqual(told, [[0], [5, 6, 8], [0], [2, 1, 0], [0, 0]])
 
     def test_no_steps_are_made_on_new_paper(self):
-        pointer = Pointer()
-        pointer.begin(0, 0)
-        pointer.go([0, 2])
-        pointer.go([2])
-        self.assertEqual(pointer.steps_made, 3)
-        pointer.begin(0, 0)
-        self.assertEqual(pointer.steps_made, 0)
+        told = ask(begin(0, 0), go("ru"), go("u"), look(), begin(0, 0), look(), go("u"), home(), begin(1, 0), look())
+        self.assertEqual(told[3], [1, 2, 3, 2])
+        self.assertEqual(told[5], [0, 0, 0, 0])
+        self.assertEqual(told[9], [1, 0, 0, 0])
 
     def test_refuses_a_number_above_8(self):
         for right in range(21):
@@ -35,8 +31,8 @@ class Begin(unittest.TestCase):
 
     def test_refused_it_changes_nothing(self):
         for right, up in ((9, 0), (0, 9), (9, 9), (20, 20)):
-            told = last(begin(4, 4), go("uur"), begin(right, up), where())
-            self.assertEqual(told, [5, 6, 8])
+            told = last(begin(4, 4), go("uur"), begin(right, up), look())
+            self.assertEqual(told, [5, 6, 3, 8])
 
     def test_refused_it_lays_no_paper(self):
         for right, up in ((9, 0), (0, 9), (20, 20)):

@@ -1,7 +1,7 @@
 """Point 2, and what a way may be."""
 import unittest
 
-from line import ask, begin, go, last, where, zero
+from line import ask, begin, go, last, look, where, zero
 
 
 class Go(unittest.TestCase):
@@ -28,6 +28,10 @@ class Go(unittest.TestCase):
     def test_goes_on_from_where_the_pointer_is(self):
         told = ask(begin(7, 0), go("r"), go("r"), go("l"), go("r"))
         self.assertEqual(told, [[0], [8, 0, 0], [-1], [7, 0, 0], [8, 0, 0]])
+
+    def test_its_steps_are_made(self):
+        told = ask(begin(0, 0), go("rru"), look(), go(""), look(), go("lld"), look())
+        self.assertEqual(told[2::2], [[2, 1, 3, 2], [2, 1, 3, 2], [0, 0, 6, 2]])
 
     def test_a_way_of_no_steps(self):
         self.assertEqual(last(begin(6, 2), go("u"), go("")), [6, 3, 6])

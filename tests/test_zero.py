@@ -1,8 +1,7 @@
 """Point 3."""
 import unittest
 
-from line import ask, begin, go, where, zero
-from wheelarea.pointer import Pointer
+from line import ask, begin, go, last, look, where, zero
 
 
 class Zero(unittest.TestCase):
@@ -16,11 +15,7 @@ class Zero(unittest.TestCase):
         self.assertEqual(told, [[0], [5, 2, 10], [0, 10], [0, 0], [5, 2, 0], [5, 3, 5], [0, 5]])
 
     def test_leaves_the_steps_that_were_made(self):
-        pointer = Pointer()
-        pointer.begin(1, 1)
-        pointer.go([2, 2])
-        pointer.zero()
-        self.assertEqual(pointer.steps_made, 2)
+        self.assertEqual(last(begin(1, 1), go("uu"), zero(), look()), [1, 3, 2, 0])
 
 
 if __name__ == "__main__":

@@ -9,19 +9,28 @@ STEP_LEFT = 1
 STEP_UP = 2
 STEP_DOWN = 3
 
+# By a step: the one that takes it back.
+BACK_OF = (1, 0, 3, 2)
+
 BEGIN = 0
 GO = 1
 ZERO = 2
 AREA = 3
 ROUND = 4
 SQUARES = 5
+CORNERS = 6
+BETWEEN = 7
+STRAIGHT = 8
+SHORTEST = 9
+HOME = 10
 
 # By a call's number: how many whole numbers it has, and how many ways behind these.
-NUMBERS_OF = (2, 0, 0, 0, 2, 0)
-WAYS_OF = (0, 1, 0, 1, 1, 1)
+NUMBERS_OF = (2, 0, 0, 0, 2, 0, 0, 0, 0, 1, 0, 0)
+WAYS_OF = (0, 1, 0, 1, 1, 1, 1, 2, 1, 0, 0, 0)
 
 NOT_LET = -1
 NO_SUCH_SQUARE = -2
+# Two ways of between that end apart make no loop either, out along the one and back along the other.
 NO_LOOP = -6
 NO_PAPER = -9
 
@@ -91,6 +100,51 @@ def times_round(square_right, square_up, uprights):
     return often
 
 
+def corners_come_to(right, up, way):
+    """The corners that a way from the corner (right, up) comes to, each once, as a dict of True."""
+    corner = (right, up)
+    found = {corner: True}
+    for step in way:
+        corner = end_of(corner[0], corner[1], [step])
+        found[corner] = True
+    return found
+
+
+def straightened(way):
+    """What is left of a way if no step is to be taken back by the one behind it."""
+    # A step is kept till one takes it back, so what lay between the two is gone by then.
+    kept = []
+    for step in way:
+        if len(kept) > 0 and kept[-1] == BACK_OF[step]:
+            kept.pop()
+        else:
+            kept.append(step)
+    return kept
+
+
+def row_length(squares):
+    """The least number whose square is that many squares or more."""
+    length = 0
+    while length * length < squares:
+        length += 1
+    return length
+
+
+def loop_round(squares):
+    """The steps of a shortest loop round that many squares, along the bottom to the right first."""
+    # Rows of no squares can't be counted by dividing.
+    if squares == 0:
+        return []
+    length = row_length(squares)
+    full_rows = squares // length
+    rest = squares % length
+    outwards = [STEP_RIGHT] * length + [STEP_UP] * full_rows
+    if rest == 0:
+        return outwards + [STEP_LEFT] * length + [STEP_DOWN] * full_rows
+    ledge = [STEP_LEFT] * (length - rest) + [STEP_UP]
+    return outwards + ledge + [STEP_LEFT] * rest + [STEP_DOWN] * (full_rows + 1)
+
+
 class Pointer:
     """The pointer with its paper, if there is one, and its wheel; each call answers a list of numbers."""
 
@@ -111,14 +165,18 @@ class Pointer:
         self.steps_made = 0
         return [0]
 
-    def go(self, way):
-        if not is_way(self.right, self.up, way):
-            return [NOT_LET]
+    def walk(self, way):
+        """Leads the pointer along a way, and the wheel turns along."""
         self.wheel += turning(self.right, self.up, way)
         self.steps_made += len(way)
         end = end_of(self.right, self.up, way)
         self.right = end[0]
         self.up = end[1]
+
+    def go(self, way):
+        if not is_way(self.right, self.up, way):
+            return [NOT_LET]
+        self.walk(way)
         return [self.right, self.up, self.wheel]
 
     def zero(self):
@@ -158,6 +216,49 @@ class Pointer:
                 most = max(most, often)
         return [many, most]
 
+    def corners(self, way):
+        if not is_way(self.right, self.up, way):
+            return [NOT_LET]
+        if not is_loop(self.right, self.up, way):
+            return [NO_LOOP]
+        uprights = upright_steps(self.right, self.up, way)
+        come_to = corners_come_to(self.right, self.up, way)
+        within = 0
+        # The squares that touch a corner which the way doesn't come to are all gone round equally often, and on the
+        # paper's edge not at all: one of them tells for all, and the inner corners are enough.
+        for right in range(1, EDGE):
+            for up in range(1, EDGE):
+                if (right, up) not in come_to and times_round(right, up, uprights) != 0:
+                    within += 1
+        return [within, len(come_to)]
+
+    def between(self, first, second):
+        if not is_way(self.right, self.up, first) or not is_way(self.right, self.up, second):
+            return [NOT_LET]
+        if end_of(self.right, self.up, first) != end_of(self.right, self.up, second):
+            return [NO_LOOP]
+        return [0, turning(self.right, self.up, first) - turning(self.right, self.up, second)]
+
+    def straight(self, way):
+        if not is_way(self.right, self.up, way):
+            return [NOT_LET]
+        left = straightened(way)
+        return [len(left)] + left
+
+    def shortest(self, squares):
+        if squares > EDGE * EDGE:
+            return [NOT_LET]
+        loop = loop_round(squares)
+        return [len(loop)] + loop
+
+    def home(self):
+        way = [STEP_LEFT] * self.right + [STEP_DOWN] * self.up
+        self.walk(way)
+        return [len(way)] + way
+
+    def look(self):
+        return [self.right, self.up, self.steps_made, self.wheel]
+
     def answer(self, call):
         """What one call, as split_calls gives it, answers."""
         number = call[0]
@@ -173,7 +274,19 @@ class Pointer:
             return self.area(call[1])
         if number == ROUND:
             return self.round_square(call[1], call[2], call[3])
-        return self.squares(call[1])
+        if number == SQUARES:
+            return self.squares(call[1])
+        if number == CORNERS:
+            return self.corners(call[1])
+        if number == BETWEEN:
+            return self.between(call[1], call[2])
+        if number == STRAIGHT:
+            return self.straight(call[1])
+        if number == SHORTEST:
+            return self.shortest(call[1])
+        if number == HOME:
+            return self.home()
+        return self.look()
 
 
 def split_calls(calls):
